@@ -1,0 +1,1 @@
+"""Lumprow: rows of boxes, balls, and the ferries that go along."""
