@@ -57,6 +57,10 @@ def balls_in(row, low, high):
     return sum([max(0, min(high, begin + length) - max(low, begin)) for begin, length in row.stretches])
 
 
+def balls_below(row, place):
+    return sum([max(0, min(length, place - begin)) for begin, length in row.stretches])
+
+
 def ball_count(row):
     return sum([length for begin, length in row.stretches])
 

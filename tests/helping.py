@@ -1,5 +1,6 @@
-"""What several tests need: asking for a refusal, and rows told box by box."""
+"""What several tests need: asking for a refusal, and rows, ferries and thinnings told box by box."""
 
+import random
 import unittest
 
 from lumprow import errors
@@ -39,6 +40,123 @@ def small_rows(boxes):
     """Each set of places from 0 to boxes - 1, beside its row, made without row_of_balls."""
     for bits in range(1 << boxes):
         places = {k for k in range(boxes) if bits >> k & 1}
-        begins = sorted(p for p in places if p - 1 not in places)
-        ends = sorted(p + 1 for p in places if p + 1 not in places)
-        yield places, Row([(begin, end - begin) for begin, end in zip(begins, ends)])
+        yield places, Row(pairs_of(places))
+
+
+def places_of(row):
+    return {place for begin, length in row.stretches for place in range(begin, begin + length)}
+
+
+def pairs_of(places):
+    """The stretches of a set of places, as a tuple of pairs."""
+    begins = sorted(p for p in places if p - 1 not in places)
+    ends = sorted(p + 1 for p in places if p + 1 not in places)
+    return tuple((begin, end - begin) for begin, end in zip(begins, ends))
+
+
+def scattered(seed, stretches, longest, widest):
+    """A row of so many stretches, of lengths up to longest and gaps up to widest: the same one each time."""
+    chance = random.Random(seed)
+    place = chance.randint(-50, 50)
+    pairs = []
+    for k in range(stretches):
+        length = chance.randint(1, longest)
+        pairs.append((place, length))
+        place += length + chance.randint(1, widest)
+    return Row(pairs)
+
+
+def scaled(row, by):
+    return Row([(begin * by, length * by) for begin, length in row.stretches])
+
+
+def ferried(places, seats):
+    """A going on from box to box: the places of balls left, how many were taken, and the balls aboard by place."""
+    left = set(places)
+    load = 0
+    count = 0
+    loads = {}
+    place = min(places, default=0) - 3
+    last = max(places, default=0)
+    while place <= last or load:
+        loads[place] = load
+        if place in left:
+            if seats is None or load < seats:
+                left.remove(place)
+                load += 1
+                count += 1
+        elif load:
+            left.add(place)
+            load -= 1
+        place += 1
+    for beyond in range(3):
+        loads[place + beyond] = 0
+    return left, count, loads
+
+
+def ferried_back(places, seats):
+    """A going back from box to box, from the right: the places of balls left."""
+    left = set(places)
+    load = 0
+    place = max(places, default=0) + 3
+    first = min(places, default=0)
+    while place >= first or load:
+        if place in left:
+            if seats is None or load < seats:
+                left.remove(place)
+                load += 1
+        elif load:
+            left.add(place)
+            load -= 1
+        place -= 1
+    return left
+
+
+def seats_to_try(row):
+    balls = sum(length for begin, length in row.stretches)
+    few = {1, 2, 3, 4, 7, balls - 1, balls, balls + 1}
+    return sorted(seats for seats in few if seats >= 1) + [None]
+
+
+def line_of(row, low, high):
+    """The letters from low on that are below high; the balls of the row are all among them."""
+    places = places_of(row)
+    assert all(low <= place < high for place in places)
+    return "".join("*" if place in places else "." for place in range(low, high))
+
+
+def row_of_line(line, low):
+    return Row(pairs_of({low + k for k, letter in enumerate(line) if letter == "*"}))
+
+
+def strike(line):
+    """One thinning, letter by letter: the line left, and the pairs struck at each spot, counted from its begin."""
+    left = ""
+    spots = {}
+    k = 0
+    while k < len(line):
+        if line[k:k + 2] == "*.":
+            spots[len(left)] = spots.get(len(left), 0) + 1
+            k += 2
+        else:
+            left += line[k]
+            k += 1
+    return left, spots
+
+
+def owes(line, spot):
+    return 1 if line[spot - 1:spot + 1] == "*." else 0
+
+
+def triples_of_line(line, low):
+    """The table of a line, thinned letter by letter until no ball is left."""
+    table = []
+    size = 0
+    while "*" in line:
+        size += 1
+        line, spots = strike(line)
+        line += ".."
+        for spot in sorted(spots):
+            if spots[spot] > owes(line, spot):
+                table.append((size, low + spot, spots[spot] - owes(line, spot)))
+    return table

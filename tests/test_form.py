@@ -24,6 +24,7 @@ WORDS = re.compile(r"\b(type|typing|typing_extensions|enum|Enum|IntEnum|StrEnum|
                    r"|dataclass|overload|contextmanager")
 NOT_USED = set("register mro elements open input version_info with_traceback add_note format format_map".split())
 WALKED = {"zip", "enumerate", "reversed", "range"}
+FIRST_IN = {"list", "tuple", "dict", "sorted", "sum", "any", "all", "enumerate", "zip"}
 STATEMENTS = (ast.Assign, ast.AugAssign, ast.If, ast.While, ast.For, ast.Return, ast.Break, ast.Continue, ast.Pass,
               ast.Raise, ast.Try, ast.Expr, ast.FunctionDef, ast.ClassDef, ast.ImportFrom)
 EXPRESSIONS = (ast.Constant, ast.Name, ast.List, ast.Tuple, ast.Dict, ast.Set, ast.BinOp, ast.UnaryOp, ast.BoolOp,
@@ -103,8 +104,75 @@ def expression_faults(node):
         for op, right in zip(node.ops, node.comparators):
             if isinstance(op, (ast.Is, ast.IsNot)) and not isinstance(right, ast.Constant):
                 yield "L20 is"
-    if isinstance(node, ast.Assign) and isinstance(node.value, ast.Call) and called(node.value) in WALKED | {"set"}:
-        yield "L23 or L24 kept"
+
+
+def walked_faults(tree):
+    """L23 and L24: what zip and its like, items and its like, and set tell is used on the spot."""
+    fine = set()
+    for node in ast.walk(tree):
+        if isinstance(node, (ast.For, ast.comprehension)):
+            fine.add(node.iter)
+        elif isinstance(node, ast.Call) and node.args:
+            join = isinstance(node.func, ast.Attribute) and node.func.attr == "join"
+            if join or called(node) in FIRST_IN or called(node) in ("min", "max") and len(node.args) == 1:
+                fine.add(node.args[0])
+    for node in ast.walk(tree):
+        if isinstance(node, ast.Call) and called(node) in WALKED and node not in fine:
+            yield f"L23 {called(node)}"
+        if isinstance(node, ast.Call) and isinstance(node.func, ast.Attribute) and node not in fine:
+            if node.func.attr in ("items", "keys", "values"):
+                yield f"L23 {node.func.attr}"
+    yield from set_faults(tree)
+
+
+def set_faults(tree):
+    fine = set()
+    for node in ast.walk(tree):
+        if isinstance(node, ast.Call) and called(node) in ("sorted", "len") and not node.keywords:
+            fine.update(node.args)
+        elif isinstance(node, ast.Compare):
+            fine.update([node.left] + node.comparators)
+    # Between two sets, an operator is as right as the sets' own place.
+    for node in list(fine):
+        fine.update(part for part in ast.walk(node) if isinstance(node, ast.BinOp))
+    for node in ast.walk(tree):
+        if isinstance(node, ast.Call) and called(node) in ("set", "frozenset") and node not in fine:
+            yield "L24 a set"
+
+
+def power_faults(node):
+    if isinstance(node, (ast.BinOp, ast.AugAssign)) and isinstance(node.op, ast.Pow):
+        exponent = node.right if isinstance(node, ast.BinOp) else node.value
+        if not (isinstance(exponent, ast.Constant) and 0 <= exponent.value <= 64):
+            yield "L27 an exponent"
+
+
+def draws_of(text):
+    """The files of the package that a file draws from, each with the names."""
+    return {node.module.rpartition(".")[2]: [n.name for n in node.names] for node in ast.parse(text).body
+            if isinstance(node, ast.ImportFrom)}
+
+
+def bound_at_top(text):
+    tops = ast.parse(text).body
+    names = {node.name for node in tops if isinstance(node, (ast.FunctionDef, ast.ClassDef))}
+    return names | {target.id for node in tops if isinstance(node, ast.Assign) for target in node.targets}
+
+
+def draw_faults(texts):
+    """L16 over all files: names come from the very file that defines them, and no two files draw from one another."""
+    draws = {name: draws_of(text) for name, text in texts.items()}
+    for name, drawn in draws.items():
+        for other, names in drawn.items():
+            if not set(names) <= bound_at_top(texts.get(other, "")):
+                yield f"L16 {name} draws from {other} what it doesn't define"
+    reached = {name: set(drawn) for name, drawn in draws.items()}
+    for step in texts:
+        for name, others in reached.items():
+            others.update(*[reached[other] for other in list(others) if other in reached])
+    for name, others in reached.items():
+        if name in others:
+            yield f"L16 {name} draws from itself"
 
 
 def called(node):
@@ -155,11 +223,11 @@ def methods_of(text):
 def faults(text, own_methods):
     tree = ast.parse(text)
     found = list(text_faults(text)) + list(top_faults(tree)) + list(name_faults(tree))
-    found.extend(method_faults(tree, own_methods))
+    found.extend(list(method_faults(tree, own_methods)) + list(walked_faults(tree)))
     for node in ast.walk(tree):
         if isinstance(node, ast.stmt):
             found.extend(statement_faults(node, tree))
-        found.extend(expression_faults(node))
+        found.extend(list(expression_faults(node)) + list(power_faults(node)))
     return found
 
 
@@ -177,12 +245,24 @@ class Form(unittest.TestCase):
         for name, text in texts.items():
             self.assertEqual(faults(text, own_methods), [], name)
 
+    def test_files_draw_from_one_another_by_the_rules(self):
+        texts = {path.stem: path.read_text(encoding="utf-8") for path in sorted(PACKAGE.glob("*.py"))}
+        self.assertEqual(list(draw_faults(texts)), [])
+        circle = {"a": "from lumprow.b import x\ny = 1\n", "b": "from lumprow.c import z\nx = 1\n",
+                  "c": "from lumprow.a import y\nz = 1\n"}
+        self.assertEqual(len(list(draw_faults(circle))), 3)
+        handed_on = {"a": "from lumprow.b import z\n", "b": "from lumprow.c import z\n", "c": "z = 1\n"}
+        self.assertEqual(len(list(draw_faults(handed_on))), 1)
+
     def test_what_is_outside_the_rules_is_found(self):
         for text in ("import os\n", "from lumprow import rows\n", "x = 1\nx = 2\n", "print(1)\n", "a = 1.5\n",
                      "def f(*a):\n    pass\n", "def f(a):\n    b, c = a\n", "def f(a):\n    return a / 2\n",
                      "def f(a):\n    return a.title()\n", "def f(a):\n    b = zip(a, a)\n", "def f(a):\n    'words'\n",
                      "def f(a):\n    return any(x for x in a)\n", "def f(a):\n    assert a\n", "# a type\n",
                      "def f(a):\n    return a is f\n", "def f(a):\n    return eval(a)\n", "a = 'x%'\n",
+                     "def f(a):\n    return sorted(set(a), reverse=True)\n", "def f(a):\n    return a.items()\n",
+                     "def f(a):\n    b = set(a)\n", "def f(a):\n    return max(reversed(a), a)\n",
+                     "def f(a):\n    return zip(a, reversed(a))\n", "def f(a):\n    return 2 ** a\n",
                      "def f(next):\n    pass\n", "def f(hidden, _a):\n    pass\n", "class A:\n    b = 1\n"):
             self.assertNotEqual(faults(text, set()), [], text)
 
