@@ -13,6 +13,11 @@ def check_seats(seats):
         raise BadSeats("a ferry has at least one seat")
 
 
+# How much of a lump of some size is a ferry's: so many of its balls it takes, and so far it moves the lump's spot.
+def share_of(size, seats):
+    return size if seats is None else min(size, seats)
+
+
 # For each stretch (begin, length, takes, sets): how many of its balls the ferry takes, and how many
 # it sets down in the gap behind.
 def stops(row, seats):

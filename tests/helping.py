@@ -4,9 +4,10 @@ import random
 import unittest
 
 from lumprow import errors
-from lumprow.rows import Row
+from lumprow.rows import Row, moved
 
 GREATEST = 10 ** 60 - 1
+FORTY = 10 ** 40
 
 
 class RefusalCase(unittest.TestCase):
@@ -66,8 +67,28 @@ def scattered(seed, stretches, longest, widest):
     return Row(pairs)
 
 
+def tables(most_size, widest, count):
+    """So many tables of 1 to 30 lumps, the same ones each time."""
+    chance = random.Random(count)
+    for k in range(count):
+        lumps = {}
+        for lump in range(chance.randint(1, 30)):
+            key = (chance.randint(1, most_size), chance.randint(-widest, widest))
+            lumps[key] = lumps.get(key, 0) + 1
+        yield [key + (lumps[key],) for key in sorted(lumps)]
+
+
 def scaled(row, by):
     return Row([(begin * by, length * by) for begin, length in row.stretches])
+
+
+def great_rows():
+    """Rows of 1 to 30 stretches, of 40 and of 60 figures, begins of either sign."""
+    for seed, count in enumerate((1, 2, 3, 8, 30, 30)):
+        small = scattered(seed, count, 9, 9)
+        for by in (FORTY, 10 ** 58 + 7):
+            for move in (0, GREATEST, -GREATEST):
+                yield small, by, move, moved(scaled(small, by), move)
 
 
 def ferried(places, seats):
@@ -109,6 +130,14 @@ def ferried_back(places, seats):
             left.add(place)
             load -= 1
         place -= 1
+    return left
+
+
+def ferried_so_often(places, seats, times):
+    """The places of balls behind so many goings, below nought back, one by one and from box to box."""
+    left = places
+    for going in range(abs(times)):
+        left = ferried(left, seats)[0] if times > 0 else ferried_back(left, seats)
     return left
 
 

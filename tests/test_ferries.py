@@ -8,19 +8,8 @@ from lumprow.rows import Row, alike, ball_at, ball_count, mirrored, moved
 from lumprow.texts import picture, pictured
 
 from helping import (
-    GREATEST, RefusalCase, ferried, ferried_back, pairs_of, places_of, scaled, scattered, seats_to_try, small_rows,
-    spaced)
-
-FORTY = 10 ** 40
-
-
-def great_rows():
-    """Rows of 1 to 30 stretches, of 40 and of 60 figures, begins of either sign."""
-    for seed, count in enumerate((1, 2, 3, 8, 30, 30)):
-        small = scattered(seed, count, 9, 9)
-        for by in (FORTY, 10 ** 58 + 7):
-            for move in (0, GREATEST, -GREATEST):
-                yield small, by, move, moved(scaled(small, by), move)
+    FORTY, GREATEST, RefusalCase, ferried, ferried_back, great_rows, pairs_of, places_of, scaled, scattered,
+    seats_to_try, small_rows, spaced)
 
 
 class Going(RefusalCase):

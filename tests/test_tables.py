@@ -1,6 +1,5 @@
 """Points 6.1 to 6.3: tables of lumps."""
 
-import random
 import unittest
 
 from lumprow.errors import BadTable, TooMany
@@ -9,20 +8,8 @@ from lumprow.tables import lumps_of, row_of, table_of
 from lumprow.texts import pictured
 from lumprow.thinning import put_in, thickened
 
-from helping import GREATEST, RefusalCase, line_of, scaled, scattered, small_rows, spaced, triples_of_line
-
-FORTY = 10 ** 40
-
-
-def tables(most_size, widest, count):
-    """So many tables of 1 to 30 lumps, the same ones each time."""
-    chance = random.Random(count)
-    for k in range(count):
-        lumps = {}
-        for lump in range(chance.randint(1, 30)):
-            key = (chance.randint(1, most_size), chance.randint(-widest, widest))
-            lumps[key] = lumps.get(key, 0) + 1
-        yield [key + (lumps[key],) for key in sorted(lumps)]
+from helping import (
+    FORTY, GREATEST, RefusalCase, line_of, scaled, scattered, small_rows, spaced, tables, triples_of_line)
 
 
 def row_by_layers(table):

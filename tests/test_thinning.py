@@ -8,9 +8,7 @@ from lumprow.texts import pictured
 from lumprow.thinning import closes_at, put_in, struck, thickened, thinned
 
 from helping import (
-    GREATEST, RefusalCase, line_of, owes, row_of_line, scaled, scattered, small_rows, spaced, strike)
-
-FORTY = 10 ** 40
+    FORTY, GREATEST, RefusalCase, line_of, owes, row_of_line, scaled, scattered, small_rows, spaced, strike)
 
 
 def lines_of_30():

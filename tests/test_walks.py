@@ -7,9 +7,7 @@ from lumprow.rows import Row, ball_at, ball_count, moved
 from lumprow.texts import pictured
 from lumprow.walks import first_at, partner, top, walk
 
-from helping import GREATEST, RefusalCase, places_of, scaled, scattered, small_rows, spaced
-
-FORTY = 10 ** 40
+from helping import FORTY, GREATEST, RefusalCase, places_of, scaled, scattered, small_rows, spaced
 
 
 def great_rows():
