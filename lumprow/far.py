@@ -5,7 +5,7 @@ the stretch begins at begin + size * t.
 """
 
 from lumprow.rows import gaps_of, mirrored
-from lumprow.tables import lumps_of, table_of
+from lumprow.tables import lumps_apart, lumps_of
 
 
 def settled(row):
@@ -15,14 +15,6 @@ def settled(row):
 
 def early(row):
     return settled(mirrored(row))
-
-
-# The pairs (size, spot), one for each lump, by rising sizes, those of one size by their spots.
-def lumps_apart(row):
-    lumps = []
-    for size, spot, number in table_of(row):
-        lumps.extend([(size, spot)] * number)
-    return lumps
 
 
 def far_lines(row):

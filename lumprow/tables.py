@@ -51,3 +51,11 @@ def lumps_of(row):
     for size, spot, number in table_of(row):
         numbers[size] = numbers.get(size, 0) + number
     return list(numbers.items())
+
+
+# The pairs (size, spot), one for each lump, by rising sizes, those of one size by their spots.
+def lumps_apart(row):
+    lumps = []
+    for size, spot, number in table_of(row):
+        lumps.extend([(size, spot)] * number)
+    return lumps

@@ -26,6 +26,13 @@ def number_told(text):
     return int(text)
 
 
+# The rows of a text; in the place of a last one that no line feed ends stands None.
+def lines_of(text):
+    lines = text.split("\n")
+    last = lines.pop()
+    return lines if last == "" else lines + [None]
+
+
 def written(row):
     words = [number_text(begin) + "+" + number_text(length) for begin, length in row.stretches]
     return " ".join(["row"] + words) + "\n"

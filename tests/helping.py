@@ -8,6 +8,17 @@ from lumprow.rows import Row, moved
 
 GREATEST = 10 ** 60 - 1
 FORTY = 10 ** 40
+# None of these is a list of lumps, each for another reason.
+NO_LUMPS = (
+    [(2, 1), (1, 1)], [(1, 1), (3, 1), (2, 1)], [(1, 2), (5, 1), (4, 1), (6, 1)], [(1, 1), (1, 1)], [(1, 1), (1, 2)],
+    [(1, 2), (1, 1)], [(1, 1), (4, 1), (4, 3), (5, 1)], [(0, 1)], [(-1, 1)], [(-GREATEST, 1)], [(0, 1), (1, 1)],
+    [(-2, 1), (-1, 1), (3, 1)], [(1, 0)], [(1, -1)], [(1, -GREATEST)], [(1, 1), (2, 0)], [(1, 0), (2, 1)],
+    [(1, 3), (2, -2), (3, 3)], [(0, 0)])
+# Of these there would be more than 30 in all, too.
+NO_LUMPS_OF_MANY = (
+    [(2, 31), (1, 1)], [(2, 1), (1, 31)], [(1, 31), (1, 31)], [(1, 16), (1, 15)], [(0, 31)], [(1, 31), (2, 0)],
+    [(1, 0), (2, 31)], [(1, 31), (2, -1)], [(1, 40), (2, -20)], [(-GREATEST, GREATEST)],
+    [(size, 1) for size in range(1, 40)] + [(39, 1)], [(size, 1) for size in range(40, 0, -1)])
 
 
 class RefusalCase(unittest.TestCase):

@@ -23,6 +23,9 @@ WORDS = re.compile(r"\b(type|typing|typing_extensions|enum|Enum|IntEnum|StrEnum|
                    r"|ABCMeta|namedtuple|NamedTuple|TypedDict|TYPE_CHECKING|abstractmethod)\b"
                    r"|dataclass|overload|contextmanager")
 NOT_USED = set("register mro elements open input version_info with_traceback add_note format format_map".split())
+VALUES = set("count index title find get join lower upper split strip copy add".split())
+KEYWORDS = {"sorted": {"key", "reverse"}, "min": {"key", "default"}, "max": {"key", "default"}, "sum": {"start"},
+            "enumerate": {"start"}, "zip": {"strict"}}
 WALKED = {"zip", "enumerate", "reversed", "range"}
 FIRST_IN = {"list", "tuple", "dict", "sorted", "sum", "any", "all", "enumerate", "zip"}
 STATEMENTS = (ast.Assign, ast.AugAssign, ast.If, ast.While, ast.For, ast.Return, ast.Break, ast.Continue, ast.Pass,
@@ -147,6 +150,62 @@ def power_faults(node):
             yield "L27 an exponent"
 
 
+def call_faults(node):
+    """L22: keywords only where they are told, at names and methods of Python's own."""
+    if isinstance(node, ast.Call) and node.keywords:
+        told = {keyword.arg for keyword in node.keywords}
+        name = called(node) or getattr(node.func, "attr", None)
+        if name in BUILTINS | METHODS and not told <= KEYWORDS.get(name, set()):
+            yield f"L22 {name}"
+
+
+def class_faults(tree):
+    """L19, L21 and L28."""
+    for node in ast.walk(tree):
+        if isinstance(node, ast.ExceptHandler):
+            caught = node.type.elts if isinstance(node.type, ast.Tuple) else [node.type]
+            if any(not isinstance(kind, ast.Name) or kind.id in ("Exception", "TypeError") for kind in caught):
+                yield "L19 a handler"
+        if isinstance(node, ast.Raise) and not isinstance(node.exc, ast.Call):
+            yield "L19 a raise"
+        if isinstance(node, ast.AnnAssign) or isinstance(node, ast.arg) and node.annotation:
+            yield "L21 an annotation"
+        if isinstance(node, ast.FunctionDef) and node.returns:
+            yield "L21 an annotation"
+        if isinstance(node, ast.FunctionDef) and node.name == "__init__":
+            if any(isinstance(part, ast.Return) for part in ast.walk(node)):
+                yield "L28 __init__"
+
+
+def kept_faults(tree):
+    """L15 and L18: what a file's top holds has no list or dict within, and nothing is given to it."""
+    tops = {target.id for node in tree.body if isinstance(node, ast.Assign) for target in node.targets}
+    tops |= {node.name for node in tree.body if isinstance(node, (ast.ClassDef, ast.FunctionDef))}
+    for node in tree.body:
+        if isinstance(node, ast.Assign):
+            inner = [part for part in ast.walk(node.value) if part is not node.value]
+            if any(isinstance(part, (ast.List, ast.Dict, ast.Set, ast.ListComp)) for part in inner):
+                yield "L15 a list within"
+    for node in ast.walk(tree):
+        if isinstance(node, (ast.Attribute, ast.Subscript)) and isinstance(node.ctx, ast.Store):
+            if isinstance(node.value, ast.Name) and node.value.id in tops:
+                yield "L15 or L18 something given to the file's top"
+
+
+def values_of(text):
+    return {node.attr for node in ast.walk(ast.parse(text))
+            if isinstance(node, ast.Attribute) and isinstance(node.ctx, ast.Store)}
+
+
+def own_name_faults(texts):
+    """L18 and L26 over all files: no method is a value, and none is called like one of Python's own."""
+    methods = set().union(*[methods_of(text) for text in texts]) - DUNDERS
+    values = set().union(*[values_of(text) for text in texts])
+    python_s = set().union(*[dir(kind) for kind in (str, int, list, dict, set, bytes, tuple, Exception)])
+    yield from [f"L18 {name}" for name in sorted(methods & values)]
+    yield from [f"L26 {name}" for name in sorted((methods - METHODS - {"add", "discard"} | values - VALUES) & python_s)]
+
+
 def draws_of(text):
     """The files of the package that a file draws from, each with the names."""
     return {node.module.rpartition(".")[2]: [n.name for n in node.names] for node in ast.parse(text).body
@@ -224,10 +283,11 @@ def faults(text, own_methods):
     tree = ast.parse(text)
     found = list(text_faults(text)) + list(top_faults(tree)) + list(name_faults(tree))
     found.extend(list(method_faults(tree, own_methods)) + list(walked_faults(tree)))
+    found.extend(list(class_faults(tree)) + list(kept_faults(tree)))
     for node in ast.walk(tree):
         if isinstance(node, ast.stmt):
             found.extend(statement_faults(node, tree))
-        found.extend(list(expression_faults(node)) + list(power_faults(node)))
+        found.extend(list(expression_faults(node)) + list(power_faults(node)) + list(call_faults(node)))
     return found
 
 
@@ -254,6 +314,14 @@ class Form(unittest.TestCase):
         handed_on = {"a": "from lumprow.b import z\n", "b": "from lumprow.c import z\n", "c": "z = 1\n"}
         self.assertEqual(len(list(draw_faults(handed_on))), 1)
 
+    def test_names_of_methods_and_values(self):
+        texts = [path.read_text(encoding="utf-8") for path in sorted(PACKAGE.glob("*.py"))]
+        self.assertEqual(list(own_name_faults(texts)), [])
+        method = "class A:\n    def row(self):\n        pass\n"
+        for name in ("row", "items", "format", "real", "args"):
+            value = f"class B:\n    def __init__(self):\n        self.{name} = 1\n"
+            self.assertEqual(len(list(own_name_faults([method, value]))), 1)
+
     def test_what_is_outside_the_rules_is_found(self):
         for text in ("import os\n", "from lumprow import rows\n", "x = 1\nx = 2\n", "print(1)\n", "a = 1.5\n",
                      "def f(*a):\n    pass\n", "def f(a):\n    b, c = a\n", "def f(a):\n    return a / 2\n",
@@ -263,7 +331,12 @@ class Form(unittest.TestCase):
                      "def f(a):\n    return sorted(set(a), reverse=True)\n", "def f(a):\n    return a.items()\n",
                      "def f(a):\n    b = set(a)\n", "def f(a):\n    return max(reversed(a), a)\n",
                      "def f(a):\n    return zip(a, reversed(a))\n", "def f(a):\n    return 2 ** a\n",
-                     "def f(next):\n    pass\n", "def f(hidden, _a):\n    pass\n", "class A:\n    b = 1\n"):
+                     "def f(next):\n    pass\n", "def f(hidden, _a):\n    pass\n", "class A:\n    b = 1\n",
+                     "def f(a):\n    return sorted(a, cmp=a)\n", "def f(a):\n    return a.split(sep=a)\n",
+                     "def f(a: int):\n    pass\n", "def f(a) -> int:\n    pass\n", "a = [[1]]\n", "a = {1: [2]}\n",
+                     "a = [1]\ndef f():\n    a[0] = 2\n", "class A:\n    pass\ndef f():\n    A.b = 2\n",
+                     "def f():\n    try:\n        f()\n    except Exception:\n        pass\n",
+                     "def f(a):\n    raise a\n", "class A:\n    def __init__(self):\n        return None\n"):
             self.assertNotEqual(faults(text, set()), [], text)
 
 
